@@ -156,7 +156,7 @@ func TestCeilDivOutOfRange(t *testing.T) {
 	const m = impl.MaxValue
 	cases := []struct{ a, b int }{
 		{1, 0}, {7, 0}, {0, 0}, {7, -3}, {-7, -3}, {7, m + 1}, {m, m + 1}, {7, math.MinInt}, {7, math.MaxInt},
-		{-1, 2}, {-7, 1}, {-1, 0}, {m + 1, 1}, {m + 1, m}, {math.MinInt, 1}, {math.MaxInt, 1},
+		{-1, 2}, {-1, 1}, {-7, 1}, {-1, 0}, {m + 1, 1}, {m + 1, m}, {math.MinInt, 1}, {math.MaxInt, 1},
 		{m + 1, m + 1}, {math.MinInt, -1}, {math.MaxInt, math.MaxInt},
 	}
 	for _, c := range cases {
