@@ -13,8 +13,8 @@ func ParseInt(s string) (int, bool) {
 		return 0, false
 	}
 	n := 0
-	for i := range len(s) {
-		if !pushDigit(&n, s[i]) {
+	for _, c := range s {
+		if !pushDigit(&n, c) {
 			return 0, false
 		}
 	}
@@ -24,7 +24,7 @@ func ParseInt(s string) (int, bool) {
 // pushDigit puts one more decimal digit behind the number n.
 // It reports false for anything but a digit and as soon as n is beyond
 // MaxValue, so that a long run of digits cannot wrap around into the range.
-func pushDigit(n *int, c byte) bool {
+func pushDigit(n *int, c rune) bool {
 	if c < '0' || c > '9' {
 		return false
 	}
