@@ -1,6 +1,7 @@
 package tests
 
 import (
+	"math"
 	"slices"
 	"testing"
 
@@ -143,16 +144,76 @@ func notDocuments() map[string][]impl.Node {
 // histories calls try with many histories of edits of the small Ids by the
 // worlds 0 to 3; some of the edits apply and some do not.
 func histories(try func(l []impl.Edit)) {
-	x := 1
-	next := func(n int) int {
-		x = x * 48271 % 2147483647
-		return x / 1000 % n
-	}
+	next := dice(1)
 	for range 2000 {
 		l := []impl.Edit{}
 		for range next(12) {
 			l = append(l, impl.Edit{Kind: 1 + next(4), Node: next(9), Parent: next(6), Tag: next(4), Text: next(1000), By: next(4)})
 		}
 		try(l)
+	}
+}
+
+// dice returns a function that returns numbers from 0 to n - 1, the same ones for the same seed.
+func dice(seed int) func(n int) int {
+	x := seed
+	return func(n int) int {
+		x = x * 48271 % 2147483647
+		return x / 1000 % n
+	}
+}
+
+// around calls try with numbers in each of the ranges and beyond it.
+func around(ranges [][2]int, try func(field int, x int, inside bool)) {
+	for field, r := range ranges {
+		for _, x := range []int{math.MinInt, -1000, -1, 0, 1, 2, 1000000, math.MaxInt, r[0] - 1, r[0], r[0] + 1, r[1] - 1, r[1], r[1] + 1} {
+			try(field, x, r[0] <= x && x <= r[1])
+		}
+	}
+}
+
+// allSites has the 90 sites there are.
+func allSites() []impl.Site {
+	l := []impl.Site{}
+	for n := range 90 {
+		l = append(l, impl.Site{Owner: 1 + n/10, Sub: n % 10})
+	}
+	return l
+}
+
+// allPatterns has the 110 patterns there are.
+func allPatterns() []impl.Pattern {
+	l := []impl.Pattern{}
+	for n := range 110 {
+		l = append(l, impl.Pattern{Owner: n / 11, Sub: n%11 - 1})
+	}
+	return l
+}
+
+var notSites = []impl.Site{{}, {Owner: -1}, {Owner: 10}, {Owner: 1, Sub: -1}, {Owner: 1, Sub: 10}, {Owner: 10, Sub: 10}, {Owner: math.MaxInt, Sub: 1}, {Owner: 1, Sub: math.MinInt}}
+
+var notPatterns = []impl.Pattern{{Owner: -1}, {Owner: 10}, {Owner: 10, Sub: -1}, {Owner: 1, Sub: -2}, {Sub: -2}, {Sub: 10}, {Owner: 1, Sub: 10}, {Owner: math.MaxInt, Sub: 1}, {Owner: 1, Sub: math.MinInt}}
+
+// matches says by other means what a pattern that is one matches.
+func matches(p impl.Pattern, s impl.Site) bool {
+	return (p.Owner == 0 || p.Owner == s.Owner) && (p.Sub == -1 || p.Sub == s.Sub)
+}
+
+// checkPicked compares what is picked out of a list for a number with the elements that belong to it.
+func checkPicked[T comparable](t *testing.T, name string, pick func(l []T, n int) []T, list []T, belongs func(x T, n int) bool) {
+	t.Helper()
+	var none T
+	l, check := guard(t, list, list[0])
+	for _, n := range []int{math.MinInt, -2, -1, 0, 1, 2, 3, 4, 5, 6, 7, 9, 10, math.MaxInt} {
+		want := slices.DeleteFunc(slices.Clone(list), func(x T) bool { return !belongs(x, n) })
+		got := pick(l, n)
+		if !slices.Equal(got, want) {
+			t.Errorf("%s of %d: %+v, want %+v", name, n, got, want)
+		}
+		scribble(got, none)
+		check(name)
+		if len(pick(nil, n)) != 0 || len(pick([]T{}, n)) != 0 {
+			t.Errorf("%s of %d: nothing becomes something", name, n)
+		}
 	}
 }
