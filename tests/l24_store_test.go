@@ -187,27 +187,30 @@ func TestPutStoredUpToTheLimits(t *testing.T) {
 	}
 }
 
-// TestPutStoredIntoNoStore puts values beside those that are the reason why a list is no store.
+// TestPutStoredIntoNoStore puts values over those that are the reason why a list is no store, and beside them.
 func TestPutStoredIntoNoStore(t *testing.T) {
-	for why, l := range notStores() {
-		for _, k := range []key24{{1, 0}, {1, 5}, {2, 5}, {5, 9}} {
-			if i := slices.IndexFunc(l, func(x impl.Stored) bool { return x.Ext == k.ext && x.Name == k.name }); i >= 0 && len(l) <= 24 {
-				continue
-			}
-			if got, ok := impl.PutStored(l, k.ext, k.name, 1); ok || !slices.Equal(got, l) {
-				t.Errorf("%s: PutStored(%v) = %+v, %v", why, k, got, ok)
+	lists := notStores()
+	lists["only Value 1000"] = entries(1, 0, 1000, 1)
+	lists["only Ver 0"] = entries(1, 0, 5, 0)
+	lists["only Value -1"] = entries(1, 0, -1, 4, 2, 3, 4, 1)
+	lists["only Ver -1"] = entries(1, 0, 5, -1)
+	lists["only Ver 1000"] = entries(1, 0, 5, 1000)
+	lists["the greatest Ver"] = entries(1, 0, 1, math.MaxInt)
+	lists["Ext falls to 1"] = entries(2, 0, 1, 1, 1, 0, 1, 1)
+	lists["Name falls"] = entries(1, 1, 1, 1, 1, 0, 1, 1, 2, 0, 1, 1)
+	lists["same key twice"] = entries(2, 0, 1, 1, 2, 0, 1, 1)
+	for why, l := range lists {
+		keys := []key24{{1, 0}, {1, 1}, {1, 5}, {2, 0}, {2, 1}, {2, 5}, {3, 3}, {5, 9}}
+		for _, x := range l {
+			keys = append(keys, key24{x.Ext, x.Name})
+		}
+		for _, k := range keys {
+			for _, value := range []int{0, 1, 7, 999, 1000} {
+				if got, ok := impl.PutStored(l, k.ext, k.name, value); ok || !slices.Equal(got, l) {
+					t.Errorf("%s: PutStored(%+v, %v, %d) = %+v, %v", why, l, k, value, got, ok)
+				}
 			}
 		}
-	}
-	for _, k := range []key24{{1, 0}, {1, 1}, {2, 0}, {2, 1}, {3, 3}} {
-		for _, l := range [][]impl.Stored{entries(2, 0, 1, 1, 1, 0, 1, 1), entries(1, 1, 1, 1, 1, 0, 1, 1, 2, 0, 1, 1), entries(2, 0, 1, 1, 2, 0, 1, 1)} {
-			if got, ok := impl.PutStored(l, k.ext, k.name, 1); ok || !slices.Equal(got, l) {
-				t.Errorf("out of order: PutStored(%+v, %v) = %+v, %v", l, k, got, ok)
-			}
-		}
-	}
-	if got, ok := impl.PutStored(entries(1, 0, 1, math.MaxInt), 1, 0, 1); ok || len(got) != 1 || got[0].Ver != math.MaxInt {
-		t.Errorf("the greatest version: %+v, %v", got, ok)
 	}
 }
 
@@ -302,7 +305,7 @@ func TestDropStored(t *testing.T) {
 }
 
 func TestStoresKeepTheirArguments(t *testing.T) {
-	for _, n := range []int{0, 1, 3, 12, 24} {
+	for _, n := range []int{0, 1, 3, 12, 24, 25} {
 		a, checkA := guard(t, longStore(n), entry(5, 8, 1, 1))
 		b, checkB := guard(t, longStore(max(n, 2))[n/2:], entry(5, 8, 2, 1))
 		check := func(what string) {
@@ -321,7 +324,7 @@ func TestStoresKeepTheirArguments(t *testing.T) {
 			check("MergeStores")
 		}
 		// What lies behind a store is no part of it.
-		if _, ok := impl.GetStored(a, 5, 8); ok || !impl.IsStore(a) {
+		if _, ok := impl.GetStored(a, 5, 8); ok || impl.IsStore(a) != (n <= 24) {
 			t.Error("an entry too many")
 		}
 		check("IsStore")
