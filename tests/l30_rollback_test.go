@@ -92,6 +92,8 @@ func TestSnapshotsOfOtherExtensions(t *testing.T) {
 		{snapshot(4), l}, {snapshot(0), l}, {snapshot(6), l}, {snapshot(-1), l}, {snapshot(math.MaxInt), l}, {snapshot(math.MinInt), l},
 		{snapshot(2, 1, 0, 5, 2), nil}, {snapshot(2, 2, 0, 6, 1, 3, 0, 8, 1), nil}, {snapshot(2, 1, 0, 5, 2, 2, 0, 6, 1), nil},
 		{snapshot(4, 2, 0, 6, 1), nil}, {snapshot(0, 1, 0, 5, 2), nil}, {snapshot(0, 0, 0, 5, 2), nil}, {snapshot(6, 6, 0, 5, 2), nil},
+		// Entries of others are none of the snapshot's, also where the result would be a store.
+		{snapshot(4, 5, 0, 6, 1), nil}, {snapshot(4, 4, 0, 6, 1, 5, 0, 6, 1), nil}, {snapshot(3, 4, 0, 6, 1), nil}, {snapshot(3, 3, 0, 8, 1, 4, 0, 6, 1), nil}, {snapshot(6, 5, 0, 6, 1), nil}, {snapshot(2, 1, 1, 6, 1), nil},
 		{snapshot(2, 2, 1, 5, 2, 2, 0, 6, 1), nil}, {snapshot(2, 2, 1, 5, 2, 2, 1, 5, 2), nil},
 		{snapshot(2, 2, 10, 5, 2), nil}, {snapshot(2, 2, 0, 1000, 2), nil}, {snapshot(2, 2, 0, -1, 2), nil}, {snapshot(2, 2, 0, 5, 0), nil}, {snapshot(2, 2, 0, 5, 1000), nil},
 	} {
@@ -191,6 +193,7 @@ func TestSnapshotsKeepTheirArguments(t *testing.T) {
 			keeps(t, "TakeSnapshot", impl.TakeSnapshot, p, longStore(n))
 			s := impl.TakeSnapshot(p, longStore(12))
 			keeps(t, "RestoreStore", impl.RestoreStore, longStore(n), s)
+			keeps(t, "RestoreStore", impl.RestoreStore, longStore(n), impl.Snapshot{Package: impl.Package{Ext: 5}, Entries: entries(5, 0, 1, 1, 5, 1, 1, 1)})
 			keeps(t, "SnapshotText", impl.SnapshotText, s)
 			keeps(t, "CanRollBack", impl.CanRollBack, 5, s, next27(func(*impl.Package) {}))
 		}

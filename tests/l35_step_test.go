@@ -469,6 +469,10 @@ func TestStepTick(t *testing.T) {
 			}
 		}
 	}
+	// Sums wrap around, also where they are compared with a limit.
+	if got, ok := impl.StepTick(impl.Browser{Now: math.MaxInt}, 1); !ok || got.Now != math.MinInt {
+		t.Errorf("from the greatest int: %+v, %v", got, ok)
+	}
 }
 
 func TestStepsKeepTheirArguments(t *testing.T) {
